@@ -1,0 +1,1 @@
+"""Roundstairs: books of words read round a ring, by stairs of rooms."""
