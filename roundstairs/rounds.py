@@ -4,7 +4,8 @@ Such a row has the marks of the word first and then those of the rooms, time by
 time. All arguments have been checked by the functions of the interface.
 """
 
-from roundstairs.rows import is_row, is_sum, is_tuple_of, noughts, partner_rows, plain_of, rest_of, times
+from roundstairs.rows import (
+    is_row, is_sum, is_tuple_of, marks_at, noughts, partner_rows, plain_of, rest_of, spread, times, unit_rows)
 
 
 def step_width(sizes, place):
@@ -23,18 +24,6 @@ def step_spots(sizes, place):
     """Where the marks of the step of a place stand in the row of a round."""
     behind = (place + 1) % len(sizes)
     return room_spots(sizes, place) + [place] + room_spots(sizes, behind)
-
-
-def marks_at(row, spots):
-    return tuple([row[spot] for spot in spots])
-
-
-def spread(marks, spots, width):
-    """The row of so many marks that has marks at some spots and 0 elsewhere."""
-    row = [0] * width
-    for spot, mark in zip(spots, marks):
-        row[spot] = mark
-    return tuple(row)
 
 
 def round_rows(stair):
@@ -70,9 +59,34 @@ def is_round_of(stair, thing):
     rooms, word = thing
     if not is_rooms(q, sizes, rooms) or not is_row(q, len(sizes), word):
         return False
+    return all([is_sum(q, section, step) for section, step in zip(sections, steps_along(rooms, word))])
+
+
+def steps_along(rooms, word):
+    """The steps of a round, place by place."""
     behind = rooms[1:] + rooms[:1]
-    steps = [room + (mark,) + target for room, mark, target in zip(rooms, word, behind)]
-    return all([is_sum(q, section, step) for section, step in zip(sections, steps)])
+    return [room + (mark,) + target for room, mark, target in zip(rooms, word, behind)]
+
+
+def passed_rows(q, rows, spots):
+    """The plain tuple whose sums are the marks of all sums of some rows at some spots."""
+    return plain_of(q, [marks_at(row, spots) for row in rows])
+
+
+def missed_by_rounds(stair):
+    """A room or a step of a stair that is on no round, as a certificate, None if there is none."""
+    q, sizes, sections = stair
+    rows = round_rows(stair)
+    for at, section in enumerate(sections):
+        rooms = passed_rows(q, rows, room_spots(sizes, at))
+        for room in unit_rows(sizes[at], list(range(sizes[at]))):
+            if not is_sum(q, rooms, room):
+                return ("room", at, room)
+        steps = passed_rows(q, rows, step_spots(sizes, at))
+        for step in section:
+            if not is_sum(q, steps, step):
+                return ("step", at, step)
+    return None
 
 
 def spelled_basis(stair):

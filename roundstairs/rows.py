@@ -47,6 +47,18 @@ def unit_rows(n, places):
     return [noughts(place) + (1,) + noughts(n - place - 1) for place in places]
 
 
+def marks_at(row, spots):
+    return tuple([row[spot] for spot in spots])
+
+
+def spread(marks, spots, width):
+    """The row of so many marks that has marks at some spots and 0 elsewhere."""
+    row = [0] * width
+    for spot, mark in zip(spots, marks):
+        row[spot] = mark
+    return tuple(row)
+
+
 def times(q, factor, row):
     return tuple([factor * mark % q for mark in row])
 
@@ -95,6 +107,11 @@ def is_sum(q, basis, row):
     return not any(rest_of(q, basis, row))
 
 
+def is_free(q, rows):
+    """Whether some rows of one length are free."""
+    return len(plain_of(q, rows)) == len(rows)
+
+
 def plain_of(q, rows):
     """The plain tuple with the same sums of multiples as some rows of one length."""
     basis = ()
@@ -136,3 +153,25 @@ def sums_of(q, n, rows):
     for row in rows:
         sums = [plus(q, start, factor, row) for start in sums for factor in range(q)]
     return tuple(sorted(sums))
+
+
+def rows_clear(q, rows, spots, width):
+    """Free rows whose sums are those sums of some rows of so many marks that have 0 at some spots."""
+    order = spots + [spot for spot in range(width) if spot not in spots]
+    ordered = plain_of(q, [marks_at(row, order) for row in rows])
+    return [spread(row, order, width) for row in ordered if head_of(row) >= len(spots)]
+
+
+def numbered_rows(q, rows):
+    """Some free rows, made plain; behind each stand the marks with which they add up to it."""
+    units = unit_rows(len(rows), list(range(len(rows))))
+    return plain_of(q, [row + unit for row, unit in zip(rows, units)])
+
+
+def marks_by(q, numbered, row):
+    """The marks with which free rows, here numbered, add up to a row; None if they don't."""
+    n = len(row)
+    rest = rest_of(q, numbered, row + noughts(len(numbered)))
+    if any(rest[:n]):
+        return None
+    return times(q, -1, rest[n:])

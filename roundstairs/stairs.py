@@ -3,9 +3,9 @@
 from roundstairs.books import is_length
 from roundstairs.errors import BadPlace, BadRow, BadStair, BadTime
 from roundstairs.rounds import (
-    is_round_of, marks_at, room_spots, round_from, round_rows, round_spelling, spelled_basis, step_spots, step_width)
+    is_round_of, missed_by_rounds, round_from, round_rows, round_spelling, spelled_basis, step_width)
 from roundstairs.rows import (
-    is_field, is_int_from, is_plain, is_row, is_tuple_of, meet, partner_rows, plain_of, sums_of, unit_rows)
+    is_field, is_int_from, is_plain, is_row, is_tuple_of, meet, partner_rows, sums_of, unit_rows)
 
 GREATEST_SIZE = 6
 
@@ -89,19 +89,7 @@ def is_sharp(stair):
 def is_trim(stair):
     """Whether each room and each step of a stair is on some round."""
     check_stair(stair)
-    q, sizes, sections = stair
-    rows = round_rows(stair)
-    for place, section in enumerate(sections):
-        if passed_at(q, rows, room_spots(sizes, place)) < sizes[place]:
-            return False
-        if passed_at(q, rows, step_spots(sizes, place)) < len(section):
-            return False
-    return True
-
-
-def passed_at(q, rows, spots):
-    """How many free rows the marks of some rows at some spots add up from."""
-    return len(plain_of(q, [marks_at(row, spots) for row in rows]))
+    return missed_by_rounds(stair) is None
 
 
 def check_stair_and_row(stair, row):

@@ -3,7 +3,7 @@
 Nothing here uses the package, so that a fault of the package can't hide itself.
 """
 
-from itertools import product
+from itertools import combinations, product
 
 FIELDS = (2, 3, 5)
 
@@ -170,3 +170,203 @@ def certificates(stair, row, laps):
     found = [("round", lap) for lap in laps if lap[1] == row]
     bars = partner_words(q, len(sizes), {word for _, word in laps})
     return found + [("against", bar) for bar in sorted(bars) if meet(q, row, bar) != 0]
+
+
+# Parts 3 and 4: stretches and makings.
+
+def places_in(n, stretch):
+    a, b = stretch
+    found = [a]
+    while found[-1] != b:
+        found.append((found[-1] + 1) % n)
+    return tuple(found)
+
+
+def inner_times(n, stretch):
+    """The time i lies ahead of the place i."""
+    return places_in(n, stretch)[1:]
+
+
+def is_stretch(n, thing):
+    return type(thing) is tuple and len(thing) == 2 and all(is_int(p) and 0 <= p < n for p in thing)
+
+
+def all_stretches(n):
+    return [(a, b) for a in range(n) for b in range(n)]
+
+
+def is_over(row, stretch):
+    a, b = stretch
+    places = places_in(len(row), stretch)
+    return row[a] != 0 and row[b] != 0 and all(row[p] == 0 for p in range(len(row)) if p not in places)
+
+
+def stretches_of(row):
+    return [stretch for stretch in all_stretches(len(row)) if is_over(row, stretch)]
+
+
+def is_full(book):
+    q, n, basis = book
+    both = (words(book), partner_words(q, n, basis))
+    return all(any(row[p] != 0 for row in rows) for p in range(n) for rows in both)
+
+
+def stretch_list(book):
+    """For each place the shortest stretch that begins there and over which some word lies."""
+    _, n, _ = book
+    lain = {stretch for word in words(book) for stretch in stretches_of(word)}
+    found = []
+    for a in range(n):
+        found.append(min([stretch for stretch in lain if stretch[0] == a], key=lambda s: len(places_in(n, s))))
+    return found
+
+
+def words_within(book, stretch):
+    n = book[1]
+    others = [p for p in range(n) if p not in places_in(n, stretch)]
+    return [word for word in words(book) if all(word[p] == 0 for p in others)]
+
+
+def is_making(book, thing):
+    q, n, basis = book
+    if type(thing) is not tuple or len(thing) != len(basis):
+        return False
+    for pair in thing:
+        if type(pair) is not tuple or len(pair) != 2 or not is_row(q, n, pair[0]) or not is_stretch(n, pair[1]):
+            return False
+        if pair[0] not in words(book) or not is_over(*pair):
+            return False
+    return is_free(q, n, [word for word, _ in thing])
+
+
+def sizes_over(n, stretches):
+    return tuple(sum(time in inner_times(n, stretch) for stretch in stretches) for time in range(n))
+
+
+def making_round(q, n, making, marks):
+    """The round that is laid for a choice of marks, one for each pair."""
+    rooms = tuple(tuple(mark for mark, (_, stretch) in zip(marks, making) if time in inner_times(n, stretch))
+                  for time in range(n))
+    word = tuple(sum(mark * row[place] for mark, (row, _) in zip(marks, making)) % q for place in range(n))
+    return (rooms, word)
+
+
+def making_rounds(q, n, making):
+    return [making_round(q, n, making, marks) for marks in product(range(q), repeat=len(making))]
+
+
+# Part 5: free words over stretches, and least sizes.
+
+def is_lot(book, thing):
+    """Whether a value is a tuple of unlike stretches of the list, at most as many as the dimension."""
+    if type(thing) is not tuple or not all(is_stretch(book[1], stretch) for stretch in thing):
+        return False
+    return len(set(thing)) == len(thing) <= len(book[2]) and set(thing) <= set(stretch_list(book))
+
+
+def is_tight(book, stretches, positions):
+    """Whether all words within the places of some stretches come from fewer free words."""
+    q, n, _ = book
+    taken = {word for at in positions for word in words_within(book, stretches[at])}
+    return count_of(q, sums(q, n, sorted(taken))) < len(positions)
+
+
+def row_certificates(book, stretches):
+    """All right certificates about some stretches of the list."""
+    q, n, _ = book
+    over = [[word for word in sorted(words(book)) if is_over(word, stretch)] for stretch in stretches]
+    found = [("rows", rows) for rows in product(*over) if is_free(q, n, rows)]
+    for count in range(len(stretches) + 1):
+        for positions in combinations(range(len(stretches)), count):
+            if is_tight(book, stretches, positions):
+                found.append(("tight", positions))
+    return found
+
+
+def has_free_words(book, stretches):
+    """Whether there are free words over some stretches, one over each; tried one word after the other."""
+    q, n, _ = book
+    sides = [{(0,) * n}]
+    for stretch in stretches:
+        over = [word for word in words(book) if is_over(word, stretch)]
+        longer = {frozenset(sums(q, n, [*taken, word])) for taken in sides for word in over if word not in taken}
+        sides = [set(taken) for taken in longer]
+    return bool(sides)
+
+
+def is_below(sizes, others):
+    return sizes != others and all(size <= other for size, other in zip(sizes, others))
+
+
+def list_sizes(book):
+    _, n, basis = book
+    lots = combinations(stretch_list(book), len(basis))
+    return {sizes_over(n, lot) for lot in lots if has_free_words(book, lot)}
+
+
+def least_sizes(book):
+    every = list_sizes(book)
+    return tuple(sorted(sizes for sizes in every if not any(is_below(other, sizes) for other in every)))
+
+
+# Part 6: stairs told apart, and trimmed stairs. `laps` are the rounds of a stair.
+
+def lap_steps(lap):
+    rooms, word = lap
+    n = len(word)
+    return [rooms[place] + (word[place],) + rooms[(place + 1) % n] for place in range(n)]
+
+
+def lies_on(lap, stretch):
+    rooms, word = lap
+    n = len(word)
+    times = {time for time in range(n) if any(rooms[time])}
+    places = {place for place in range(n) if any(lap_steps(lap)[place])}
+    if stretch == ():
+        return times == set(range(n))
+    return times == set(inner_times(n, stretch)) and places == set(places_in(n, stretch))
+
+
+def is_told_apart(stair, laps, thing):
+    q, sizes, sections = stair
+    n = len(sizes)
+    if type(thing) is not tuple:
+        return False
+    right = {repr(lap) for lap in laps}
+    for part in thing:
+        if type(part) is not tuple or len(part) != 3 or repr(part[1:]) not in right:
+            return False
+        if repr(part[0]) != "()" and not is_stretch(n, part[0]) or not lies_on(part[1:], part[0]):
+            return False
+    for at in range(n):
+        rooms = [part[1][at] for part in thing if any(part[1][at])]
+        if len(rooms) != sizes[at] or not is_free(q, sizes[at], rooms):
+            return False
+        steps = [lap_steps(part[1:])[at] for part in thing if any(lap_steps(part[1:])[at])]
+        if len(steps) != len(sections[at]) or not is_free(q, width(sizes, at), steps):
+            return False
+    return True
+
+
+def missed(stair, laps):
+    """All right certificates that a room or a step is on no round."""
+    q, sizes, _ = stair
+    found = []
+    for at, size in enumerate(sizes):
+        gone = {rooms[at] for rooms, _ in laps}
+        found.extend(("room", at, room) for room in all_rows(q, size) if room not in gone)
+        gone = {lap_steps(lap)[at] for lap in laps}
+        there = sorted(room + (mark,) + target for room, mark, target in steps(stair, at))
+        found.extend(("step", at, step) for step in there if step not in gone)
+    return found
+
+
+def trimmed(stair, laps):
+    q, sizes, _ = stair
+    n = len(sizes)
+    heads = [[head(row) for row in plain(q, size, sorted({rooms[at] for rooms, _ in laps}))]
+             for at, size in enumerate(sizes)]
+    named = [(tuple(tuple(room[h] for h in heads[at]) for at, room in enumerate(rooms)), word) for rooms, word in laps]
+    small = tuple(len(spots) for spots in heads)
+    sections = [plain(q, width(small, at), sorted({lap_steps(lap)[at] for lap in named})) for at in range(n)]
+    return (q, small, tuple(sections))

@@ -4,6 +4,8 @@ from tests import oracles
 
 EVEN = (2, 4, ((1, 0, 0, 1), (0, 1, 0, 1), (0, 0, 1, 1)))
 PAIRS = (2, 4, ((1, 0, 1, 0), (0, 1, 0, 1)))
+# A making of EVEN.
+MAKING = (((1, 1, 0, 0), (0, 1)), ((0, 1, 1, 0), (1, 2)), ((0, 0, 1, 1), (2, 3)))
 PASS = ((1, 0, 1), (0, 1, 1))
 OPEN = (2, (0, 1, 1, 1), (((1, 1),), PASS, PASS, ((1, 1),)))
 ROUND = (2, (1, 1, 1, 1), (PASS, PASS, PASS, PASS))
@@ -111,6 +113,119 @@ def largest_stairs():
     return found
 
 
+def full_books():
+    """Full books with few enough words that all can be gone through."""
+    dice = Dice(19)
+    found = [EVEN, PAIRS]
+    for q, n, count in ((2, 2, 1), (2, 3, 8), (2, 4, 12), (2, 5, 16), (2, 6, 10), (3, 2, 2), (3, 3, 8), (3, 4, 8),
+                        (5, 2, 4), (5, 3, 6)):
+        picked = []
+        while len(picked) < count:
+            book = (q, n, oracles.plain(q, n, dice.rows(q, n, 1 + dice.throw(n - 1))))
+            if oracles.is_full(book):
+                picked.append(book)
+        found.extend(picked)
+    return sorted(set(found))
+
+
+def not_full_books():
+    """Books with a place at which all words have 0, or all rows of the partner."""
+    dead = [(2, 3, ((1, 1, 0),)), (3, 4, ((1, 0, 2, 0), (0, 0, 0, 1))), (5, 2, ()), (2, 12, ())]
+    alone = [(2, 3, ((1, 0, 0), (0, 1, 1))), (5, 3, ((1, 0, 4), (0, 1, 0))), (3, 2, ((1, 0), (0, 1)))]
+    return dead + alone + [whole(2, 12)]
+
+
+def largest_full_books():
+    """Full books with the most places that the limits of part 5 let be, of many kinds."""
+    dice = Dice(23)
+    found = []
+    for q, n in ((2, 10), (3, 7), (5, 5)):
+        ones = (1,) * n
+        pairs = tuple(tuple(int(at in (k, k + 1)) * (1 if at == k else q - 1) for at in range(n)) for k in range(n - 1))
+        found.extend([(q, n, (ones,)), (q, n, oracles.plain(q, n, pairs))])
+        tried = [dice.rows(q, n, count) for count in range(2, n) for _ in range(3)]
+        # All turned rows of one: many of the stretches have too few words between them.
+        for start in ((1, 1, 0, 1), (1, 0, 1), (1, 1, 1, 1, 1), (1, 0, 1, 1)):
+            row = (start + (0,) * n)[:n]
+            tried.append(tuple(row[k:] + row[:k] for k in range(n)))
+        for k in range(2, n):
+            tried.append(tuple(tuple(int(at % k == j % k) for at in range(n)) for j in range(n)))
+        books = [(q, n, oracles.plain(q, n, rows)) for rows in tried]
+        found.extend(book for book in books if oracles.is_full(book))
+    return sorted(set(found))
+
+
+def free_rows(dice, q, n, count):
+    """So many free rows of n marks, thrown."""
+    rows = ()
+    while len(rows) < count:
+        row = dice.row(q, n)
+        if row not in oracles.sums(q, n, rows):
+            rows = rows + (row,)
+    return rows
+
+
+def laid_apart(dice, q, n, stretches):
+    """A stair that is told apart by rounds on these stretches, () for all times, and the parts by which it is."""
+    passing = [[at for at, stretch in enumerate(stretches) if stretch == () or time in oracles.inner_times(n, stretch)]
+               for time in range(n)]
+    tables = [free_rows(dice, q, len(parts), len(parts)) for parts in passing]
+    told = []
+    for at, stretch in enumerate(stretches):
+        rooms = tuple(tables[time][passing[time].index(at)] if at in passing[time] else (0,) * len(passing[time])
+                      for time in range(n))
+        places = range(n) if stretch == () else oracles.places_in(n, stretch)
+        word = tuple(dice.throw(q) if place in places else 0 for place in range(n))
+        if len(places) == 1:
+            word = tuple(int(place in places) for place in range(n))
+        told.append((stretch, rooms, word))
+    sizes = tuple(len(parts) for parts in passing)
+    sections = []
+    for place in range(n):
+        steps = [oracles.lap_steps(part[1:])[place] for part in told]
+        sections.append(oracles.plain(q, oracles.width(sizes, place), steps))
+    return (q, sizes, tuple(sections)), tuple(told)
+
+
+def told_stairs():
+    """Trim stairs of few rooms, each with the parts by which it was laid."""
+    dice = Dice(31)
+    found = []
+    shapes = [(q, n, count) for q, n in ((2, 2), (2, 3), (2, 4), (2, 5), (3, 2), (3, 3), (5, 2)) for count in range(5)]
+    for q, n, count in shapes:
+        if q ** count > 100:
+            continue
+        for _ in range(4):
+            stretches = []
+            for _ in range(count):
+                a, b = dice.throw(n), dice.throw(n)
+                alone = a == b
+                if dice.throw(5) == 0:
+                    stretches.append(())
+                elif not alone or (a, b) not in stretches:
+                    stretches.append((a, b))
+            found.append(laid_apart(dice, q, n, stretches))
+    return found
+
+
+def largest_told_stairs():
+    """Trim stairs at the limits, with up to 12 places and sizes up to 6, each with its parts."""
+    dice = Dice(37)
+    alone = [(k, k) for k in range(12)]
+    passing = [(k, (k + 1) % 12) for k in range(12)]
+    return [
+        laid_apart(dice, 2, 12, [(), ()]),
+        laid_apart(dice, 2, 12, passing + passing),
+        laid_apart(dice, 2, 12, [()] + passing + alone),
+        laid_apart(dice, 2, 12, [(0, 11), (4, 3)] + alone[::3]),
+        laid_apart(dice, 2, 12, [(k, (k + 4) % 12) for k in range(0, 12, 2)]),
+        laid_apart(dice, 2, 12, [(9, 1)] * 6),
+        laid_apart(dice, 2, 4, [(), (), (), (0, 3), (1, 0), (2, 1), (3, 2)]),
+        laid_apart(dice, 3, 7, [(), (0, 6), (3, 2)]),
+        laid_apart(dice, 5, 5, [(), (0, 4), (2, 2), (3, 3)]),
+    ]
+
+
 def deep(wrap):
     """A value that is wrapped eight times."""
     value = 1
@@ -132,6 +247,10 @@ def any_values():
         (0,) * 3000, [0] * 3000, ((0, 0),) * 1000, {k: (k,) for k in range(1000)}, "abc",
         EVEN, PAIRS, OPEN, ROUND, FIVE, ((1, 0, 1, 0),), (((), (1,), (0,), (0,)), (1, 1, 0, 0)),
         ("round", (((), (1,), (0,), (0,)), (1, 1, 0, 0))), ("against", (1, 1, 1, 1)),
+        MAKING, list(MAKING), ("lesser", MAKING), ("least",), ["least"], ("tight", (0, 1)), ("tight", [0, 1]),
+        ("rows", ((1, 0, 1, 0), (0, 1, 0, 1))), ("rows", (None, [])), ((0, 2), (2, 0)), ((0, 1), (1, 2), (2, 3)),
+        ("apart", (((0, 1), ((), (1,), (0,)), (1, 1, 0)), ((1, 2), ((), (0,), (1,)), (0, 1, 1)))), ("apart", [None]),
+        ("apart", (((), (), ()), (None, None, None))), ("room", 1, (1,)), ("step", 0, (0, 0, 1)), ("room", [], {}),
     ]
 
 

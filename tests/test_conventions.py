@@ -6,12 +6,18 @@ import inspect
 import unittest
 
 from roundstairs import errors
+from roundstairs.apart import apart_holds, judge_apart, stair_stretches, trimmed
 from roundstairs.books import (
     book_of, dimension, has_word, is_book, partner_of, within, words_of)
+from roundstairs.least import (
+    fewest_greatest, fewest_sum, judge_least, judge_rows, least_holds, least_sizes, making_below, rows_hold)
+from roundstairs.makings import is_making, making_sizes, marks_of, round_by, stair_of
 from roundstairs.stairs import (
     is_round, is_sharp, is_stair, is_trim, judge_word, round_count, rooms_of, rounds_of, spelled, steps_of, word_holds)
+from roundstairs.stretches import (
+    does_lie_over, inner_times, is_full, is_stretch, list_of, places_in, stretches_of, words_over)
 from tests import oracles
-from tests.samples import EVEN, OPEN, any_values, mangled
+from tests.samples import EVEN, MAKING, OPEN, any_values, mangled, not_full_books
 
 INTERFACE = {
     "roundstairs.books": {
@@ -22,6 +28,20 @@ INTERFACE = {
         "is_round": ("stair", "thing"), "round_count": ("stair",), "rounds_of": ("stair",), "spelled": ("stair",),
         "is_sharp": ("stair",), "is_trim": ("stair",), "judge_word": ("stair", "row"),
         "word_holds": ("stair", "row", "thing")},
+    "roundstairs.stretches": {
+        "is_stretch": ("n", "thing"), "places_in": ("n", "stretch"), "inner_times": ("n", "stretch"),
+        "stretches_of": ("q", "row"), "does_lie_over": ("q", "row", "stretch"), "is_full": ("book",),
+        "list_of": ("book",), "words_over": ("book", "stretch")},
+    "roundstairs.makings": {
+        "is_making": ("book", "thing"), "making_sizes": ("book", "making"), "stair_of": ("book", "making"),
+        "marks_of": ("book", "making", "row"), "round_by": ("book", "making", "row")},
+    "roundstairs.least": {
+        "judge_rows": ("book", "stretches"), "rows_hold": ("book", "stretches", "thing"), "least_sizes": ("book",),
+        "making_below": ("book", "sizes"), "fewest_greatest": ("book",), "fewest_sum": ("book",),
+        "judge_least": ("stair",), "least_holds": ("stair", "thing")},
+    "roundstairs.apart": {
+        "judge_apart": ("stair",), "apart_holds": ("stair", "thing"), "stair_stretches": ("stair",),
+        "trimmed": ("stair",)},
 }
 
 LAP = (((), (1,), (0,), (0,)), (1, 1, 0, 0))
@@ -46,9 +66,41 @@ CALLS = (
     (is_trim, {"stair": OPEN}),
     (judge_word, {"stair": OPEN, "row": (1, 0, 0, 0)}),
     (word_holds, {"stair": OPEN, "row": (1, 1, 0, 0), "thing": ("round", LAP)}),
+    (is_stretch, {"n": 4, "thing": (2, 0)}),
+    (places_in, {"n": 4, "stretch": (2, 0)}),
+    (inner_times, {"n": 4, "stretch": (2, 0)}),
+    (stretches_of, {"q": 2, "row": (1, 1, 0, 1)}),
+    (does_lie_over, {"q": 2, "row": (1, 1, 0, 1), "stretch": (0, 1)}),
+    (is_full, {"book": EVEN}),
+    (list_of, {"book": EVEN}),
+    (words_over, {"book": EVEN, "stretch": (2, 0)}),
+    (is_making, {"book": EVEN, "thing": MAKING}),
+    (making_sizes, {"book": EVEN, "making": MAKING}),
+    (stair_of, {"book": EVEN, "making": MAKING}),
+    (marks_of, {"book": EVEN, "making": MAKING, "row": (1, 0, 0, 1)}),
+    (round_by, {"book": EVEN, "making": MAKING, "row": (1, 0, 0, 1)}),
+    (judge_rows, {"book": EVEN, "stretches": ((3, 0), (1, 2))}),
+    (rows_hold, {"book": EVEN, "stretches": ((3, 0),), "thing": ("rows", ((1, 0, 0, 1),))}),
+    (least_sizes, {"book": EVEN}),
+    (making_below, {"book": EVEN, "sizes": (2, 1, 0, 1)}),
+    (fewest_greatest, {"book": EVEN}),
+    (fewest_sum, {"book": EVEN}),
+    (judge_least, {"stair": OPEN}),
+    (least_holds, {"stair": OPEN, "thing": ("least",)}),
+    (judge_apart, {"stair": OPEN}),
+    (apart_holds, {"stair": OPEN, "thing": ("apart", ())}),
+    (stair_stretches, {"stair": OPEN}),
+    (trimmed, {"stair": OPEN}),
 )
 
-YES_OR_NO = ("is_book", "has_word", "is_stair", "is_round", "is_sharp", "is_trim", "word_holds")
+def is_told_sizes(n, value):
+    return type(value) is tuple and len(value) == n and all(oracles.is_int(size) and size >= 0 for size in value)
+
+
+YES_OR_NO = ("is_book", "has_word", "is_stair", "is_round", "is_sharp", "is_trim", "word_holds", "is_stretch",
+             "does_lie_over", "is_full", "is_making", "rows_hold", "least_holds", "apart_holds")
+NEEDS_FULL = ("list_of", "judge_rows", "rows_hold", "least_sizes", "making_below", "fewest_greatest", "fewest_sum",
+              "judge_least", "least_holds")
 
 # For each parameter its error, and whether a value is of the kind; EVEN and OPEN have four places.
 KINDS = {
@@ -59,13 +111,26 @@ KINDS = {
     "time": (errors.BadTime, lambda value: oracles.is_int(value) and 0 <= value < 4),
     "place": (errors.BadPlace, lambda value: oracles.is_int(value) and 0 <= value < 4),
     "places": (errors.BadPlaces, lambda value: oracles.is_places(4, value)),
+    "stretch": (errors.BadStretch, lambda value: oracles.is_stretch(4, value)),
+    "making": (errors.BadMaking, lambda value: oracles.is_making(EVEN, value)),
+    "stretches": (errors.BadStretches, lambda value: oracles.is_lot(EVEN, value)),
+    "sizes": (errors.BadSizes, lambda value: is_told_sizes(4, value)),
 }
+
+
+def is_row_for(name, value):
+    """Whether a value is a row that a function takes, by 2."""
+    if name in ("stretches_of", "does_lie_over"):
+        return type(value) is tuple and 2 <= len(value) <= 12 and oracles.is_row(2, len(value), value)
+    # EVEN and OPEN are by 2 and have four places.
+    if name in ("marks_of", "round_by"):
+        return oracles.is_row(2, 4, value) and value in oracles.words(EVEN)
+    return oracles.is_row(2, 4, value)
 
 
 def is_kind(function, parameter, value):
     if parameter == "row":
-        # EVEN and OPEN are by 2 and have four places.
-        return oracles.is_row(2, 4, value)
+        return is_row_for(function.__name__, value)
     return KINDS[parameter][1](value)
 
 
@@ -173,10 +238,31 @@ class CallTest(unittest.TestCase):
         for value in any_values():
             self.assertIs(is_book(value), oracles.is_book(value))
             self.assertIs(is_stair(value), oracles.is_stair(value))
-            self.assertIs(type(is_round(OPEN, value)), bool)
-            self.assertIs(type(word_holds(OPEN, (1, 0, 0, 0), value)), bool)
-            self.assertIs(type(word_holds(OPEN, (1, 1, 0, 0), ("round", value))), bool)
             self.assertIs(word_holds(OPEN, (1, 1, 0, 0), ("against", value)), False)
+        for function, arguments in CALLS:
+            if "thing" in arguments:
+                self.assertIn(function.__name__, YES_OR_NO)
+                for value in any_values() + list(mangled(arguments["thing"])):
+                    for thing in (value, ("round", value), ("rows", value), ("tight", value), ("lesser", value),
+                                  ("apart", value), ("room", value, value), ("step", 1, value), (value, (0, 1))):
+                        self.assertIs(type(function(**{**arguments, "thing": thing})), bool)
+
+    def test_books_that_are_not_full(self):
+        for function, arguments in CALLS:
+            first = list(arguments)[0]
+            for book in not_full_books():
+                # Nothing goes round but the words, so there are no rooms at all.
+                n = book[1]
+                stair = (book[0], (0,) * n, tuple(((1,),) if any(row[at] for row in book[2]) else () for at in range(n)))
+                if first in ("book", "stair") and (function.__name__ in NEEDS_FULL):
+                    changed = {**{name: None for name in arguments}, first: book if first == "book" else stair}
+                    with self.assertRaises(errors.NotFull) as caught:
+                        function(**changed)
+                    self.assertIs(type(caught.exception), errors.NotFull)
+                elif first == "book":
+                    self.assertNotIn("NotFull", self.outcome(function, {**arguments, "book": book}))
+                elif first == "stair":
+                    self.assertNotIn("NotFull", self.outcome(function, {**arguments, "stair": stair}))
 
     def test_no_argument_is_changed(self):
         for function, arguments in CALLS:

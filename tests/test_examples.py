@@ -29,6 +29,51 @@ STAIRS = """
 [((),), ((0,), (1,)), ((0, 0, 0), (0, 1, 1), (1, 0, 1), (1, 1, 0)), True, ('round', (((), (1,), (0,), (0,)), (1, 1, 0, 0))), True]
 """
 
+STRETCHES = """
+>>> from roundstairs.stretches import does_lie_over, inner_times, is_full, is_stretch, list_of, places_in, stretches_of, words_over
+>>> EVEN = (2, 4, ((1, 0, 0, 1), (0, 1, 0, 1), (0, 0, 1, 1)))
+>>> PAIRS = (2, 4, ((1, 0, 1, 0), (0, 1, 0, 1)))
+>>> [places_in(4, (2, 0)), inner_times(4, (2, 0)), inner_times(4, (1, 1)), stretches_of(2, (1, 0, 1, 0)), stretches_of(3, (0, 2, 0)), does_lie_over(2, (1, 0, 1, 0), (2, 0)), is_stretch(4, (0, 4))]
+[(2, 3, 0), (3, 0), (), ((0, 2), (2, 0)), ((1, 1),), True, False]
+>>> [list_of(EVEN), list_of(PAIRS), list_of((2, 4, ((1, 1, 1, 1),))), is_full((2, 3, ((1, 0, 0), (0, 1, 1)))), words_over(EVEN, (0, 2)), words_over(PAIRS, (1, 0))]
+[((0, 1), (1, 2), (2, 3), (3, 0)), ((0, 2), (1, 3), (2, 0), (3, 1)), ((0, 3), (1, 0), (2, 1), (3, 2)), False, ((1, 0, 1, 0),), ((1, 1, 1, 1),)]
+>>> list_of((2, 3, ((1, 0, 0), (0, 1, 1))))
+raises NotFull
+"""
+
+MAKINGS = """
+>>> from roundstairs.makings import is_making, making_sizes, marks_of, round_by, stair_of
+>>> EVEN = (2, 4, ((1, 0, 0, 1), (0, 1, 0, 1), (0, 0, 1, 1)))
+>>> PASS = ((1, 0, 1), (0, 1, 1))
+>>> MAKING = (((1, 1, 0, 0), (0, 1)), ((0, 1, 1, 0), (1, 2)), ((0, 0, 1, 1), (2, 3)))
+>>> [is_making(EVEN, MAKING), is_making(EVEN, MAKING[:2]), making_sizes(EVEN, MAKING), stair_of(EVEN, MAKING), marks_of(EVEN, MAKING, (1, 0, 0, 1)), round_by(EVEN, MAKING, (1, 0, 0, 1))]
+[True, False, (0, 1, 1, 1), (2, (0, 1, 1, 1), (((1, 1),), ((1, 0, 1), (0, 1, 1)), ((1, 0, 1), (0, 1, 1)), ((1, 1),))), (1, 1, 1), (((), (1,), (1,), (1,)), (1, 0, 0, 1))]
+>>> making_sizes(EVEN, MAKING[:2] + (((0, 0, 1, 1), (3, 2)),))
+(1, 2, 2, 0)
+"""
+
+LEAST = """
+>>> from roundstairs.least import fewest_greatest, fewest_sum, judge_least, judge_rows, least_holds, least_sizes, making_below, rows_hold
+>>> EVEN = (2, 4, ((1, 0, 0, 1), (0, 1, 0, 1), (0, 0, 1, 1)))
+>>> PAIRS = (2, 4, ((1, 0, 1, 0), (0, 1, 0, 1)))
+>>> PASS = ((1, 0, 1), (0, 1, 1))
+>>> ROUND = (2, (1, 1, 1, 1), (PASS, PASS, PASS, PASS))
+>>> [judge_rows(PAIRS, ((0, 2), (2, 0))), judge_rows(PAIRS, ((0, 2), (1, 3))), rows_hold(EVEN, ((3, 0),), ('rows', ((1, 0, 0, 1),))), least_sizes(EVEN), least_sizes(PAIRS)]
+[('tight', (0, 1)), ('rows', ((1, 0, 1, 0), (0, 1, 0, 1))), True, ((0, 1, 1, 1), (1, 0, 1, 1), (1, 1, 0, 1), (1, 1, 1, 0)), ((0, 1, 2, 1), (1, 0, 1, 2), (1, 2, 1, 0), (2, 1, 0, 1))]
+>>> [fewest_greatest(PAIRS), fewest_sum(EVEN), judge_least(ROUND)[0], least_holds(ROUND, ('lesser', (((1, 1, 0, 0), (0, 1)), ((0, 1, 1, 0), (1, 2)), ((0, 0, 1, 1), (2, 3))))), making_below(EVEN, (0, 0, 9, 9))]
+[2, 3, 'lesser', True, None]
+"""
+
+APART = """
+>>> from roundstairs.apart import apart_holds, judge_apart, stair_stretches, trimmed
+>>> LAID = (2, (0, 1, 1), (((1, 1),), ((1, 0, 1), (0, 1, 1)), ((1, 1),)))
+>>> CUT = (2, (0, 1, 1), (((1, 0),), ((1, 0, 1), (0, 1, 1)), ((1, 1),)))
+>>> [stair_stretches(LAID), apart_holds(LAID, ('apart', (((0, 1), ((), (1,), (0,)), (1, 1, 0)), ((1, 2), ((), (0,), (1,)), (0, 1, 1))))), apart_holds(LAID, ('apart', (((0, 1), ((), (1,), (0,)), (1, 1, 0)), ((0, 2), ((), (1,), (1,)), (1, 0, 1)))))]
+[((0, 1), (1, 2)), True, False]
+>>> [apart_holds(CUT, ('room', 1, (1,))), judge_apart(CUT)[0] in ('room', 'step'), trimmed(CUT), trimmed(LAID) == LAID]
+[True, True, (2, (0, 0, 1), (((1,),), ((1, 1),), ((1, 1),))), True]
+"""
+
 
 class ExamplesTest(unittest.TestCase):
 
@@ -52,17 +97,30 @@ class ExamplesTest(unittest.TestCase):
         self.assertGreater(answered, 0)
 
     def check_error(self, code, answer, names):
-        name, attribute, value = re.fullmatch(r"raises (\w+)\((\w+)=(.*)\)", answer).groups()
+        name, attribute, value = re.fullmatch(r"raises (\w+)(?:\((\w+)=(.*)\))?", answer).groups()
         with self.assertRaises(errors.StairError) as caught:
             eval(code, names)
         self.assertIs(type(caught.exception), getattr(errors, name))
-        self.assertEqual(repr(getattr(caught.exception, attribute)), value)
+        told = {} if attribute is None else {attribute: value}
+        self.assertEqual({key: repr(thing) for key, thing in vars(caught.exception).items()}, told)
 
     def test_books(self):
         self.run_text(BOOKS)
 
     def test_stairs(self):
         self.run_text(STAIRS)
+
+    def test_stretches(self):
+        self.run_text(STRETCHES)
+
+    def test_makings(self):
+        self.run_text(MAKINGS)
+
+    def test_least(self):
+        self.run_text(LEAST)
+
+    def test_apart(self):
+        self.run_text(APART)
 
     def test_readme(self):
         readme = pathlib.Path(__file__).parent.parent / "README.md"
