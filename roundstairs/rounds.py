@@ -62,6 +62,12 @@ def is_round_of(stair, thing):
     return all([is_sum(q, section, step) for section, step in zip(sections, steps_along(rooms, word))])
 
 
+def repeated(stair, m):
+    """A stair laid m times one behind the other, perhaps with more places than a stair can have."""
+    q, sizes, sections = stair
+    return (q, sizes * m, sections * m)
+
+
 def steps_along(rooms, word):
     """The steps of a round, place by place."""
     behind = rooms[1:] + rooms[:1]

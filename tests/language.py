@@ -39,6 +39,9 @@ TAKERS = ("list", "tuple", "dict", "sorted", "sum", "any", "all", "enumerate", "
 EATERS = ("list", "tuple", "dict", "sorted", "sum", "min", "max", "any", "all")
 CHANGERS = ("append", "clear", "extend", "insert", "pop", "remove", "reverse", "setdefault", "update")
 
+# L2: what is let in of the library; it is only called, by its bare name and by position.
+LIBRARY = {"math": ("gcd",)}
+
 # L17: not in any file but in comments and docstrings.
 WORDS = ("type", "typing", "typing_extensions", "enum", "Enum", "IntEnum", "StrEnum", "Flag", "IntFlag", "Generic",
          "Protocol", "ABC", "ABCMeta", "namedtuple", "NamedTuple", "TypedDict", "TYPE_CHECKING", "abstractmethod")
@@ -154,6 +157,12 @@ def imported_names(tree):
     return [alias.name for node in tree.body if isinstance(node, ast.ImportFrom) for alias in node.names]
 
 
+def library_names(tree):
+    """The names that a file imports from the library."""
+    return [alias.name for node in tree.body if isinstance(node, ast.ImportFrom) and node.module in LIBRARY
+            for alias in node.names]
+
+
 def own_classes(trees):
     return [node.name for tree in trees.values() for node in tree.body if isinstance(node, ast.ClassDef)]
 
@@ -164,7 +173,11 @@ def import_faults(trees):
     for name, tree in trees.items():
         reached[name] = []
         for node in tree.body:
-            if isinstance(node, ast.ImportFrom):
+            if isinstance(node, ast.ImportFrom) and node.level == 0 and node.module in LIBRARY:
+                for alias in node.names:
+                    if alias.name not in LIBRARY[node.module] or alias.asname:
+                        found.append(f"L2 {name}:{node.lineno}: {alias.name} is not let in from {node.module}")
+            elif isinstance(node, ast.ImportFrom):
                 source = (node.module or "").removeprefix(PACKAGE + ".") + ".py"
                 reached[name].append(source)
                 defined = module_names(trees[source]) if source in trees else []
@@ -198,6 +211,7 @@ class FileCheck:
         self.classes = classes
         self.bound = module_names(tree)
         self.imported = imported_names(tree)
+        self.library = library_names(tree)
         self.parents = {child: node for node in ast.walk(tree) for child in ast.iter_child_nodes(node)}
         self.found = []
 
@@ -276,6 +290,8 @@ class FileCheck:
             self.fault("L12", node, "_ is read")
         if node.id not in names and node.id not in self.bound + list(CALLED + ERRORS):
             self.fault("L8", node, f"{node.id} is not among the names that are let in")
+        if node.id in self.library and not self.is_called(node):
+            self.fault("L2", node, f"{node.id} of the library as a value")
         parent = self.parents[node]
         if node.id in CALLED and node.id not in names and not self.is_called(node):
             asked = parent if isinstance(parent, ast.Call) else self.parents[parent]
@@ -367,6 +383,8 @@ class FileCheck:
             self.fault("L7", node, "a star in a call is not let in")
         if not own and any(part.arg not in KEYWORDS.get(name, ()) for part in node.keywords):
             self.fault("L22", node, f"a keyword of {name}")
+        if name in self.library and node.keywords:
+            self.fault("L2", node, f"a keyword of {name} of the library")
         if any(part.arg in ("open", "input", "self") for part in node.keywords):
             self.fault("L22", node, "the name of a keyword")
         if name in ("zip", "enumerate", "reversed", "range", "items", "keys", "values") and not own:

@@ -3,6 +3,7 @@
 Nothing here uses the package, so that a fault of the package can't hide itself.
 """
 
+from fractions import Fraction
 from itertools import combinations, product
 
 FIELDS = (2, 3, 5)
@@ -370,3 +371,221 @@ def trimmed(stair, laps):
     small = tuple(len(spots) for spots in heads)
     sections = [plain(q, width(small, at), sorted({lap_steps(lap)[at] for lap in named})) for at in range(n)]
     return (q, small, tuple(sections))
+
+
+# Parts 7 and 8: the partner's stair, and stairs that are changed.
+
+def partner_steps(stair, place):
+    """All triples, as rows, that are 0 with each step of a place."""
+    q, sizes, _ = stair
+    size = sizes[place]
+    right = steps(stair, place)
+    return {row for row in all_rows(q, width(sizes, place))
+            if all((meet(q, row[:size], room) + row[size] * mark - meet(q, row[size + 1:], target)) % q == 0
+                   for room, mark, target in right)}
+
+
+def dimensions(q, laps):
+    """How many free rounds there are, and how many that spell noughts."""
+    return count_of(q, laps), count_of(q, [lap for lap in laps if not any(lap[1])])
+
+
+def led(q, room, table):
+    return tuple(sum(mark * row[at] for mark, row in zip(room, table)) % q for at in range(len(room)))
+
+
+def is_table(q, size, thing):
+    if type(thing) is not tuple or len(thing) != size or not all(is_row(q, size, row) for row in thing):
+        return False
+    return not any(any(room) and not any(led(q, room, thing)) for room in all_rows(q, size))
+
+
+def is_tables(stair, thing):
+    q, sizes, _ = stair
+    if type(thing) is not tuple or len(thing) != len(sizes):
+        return False
+    return all(is_table(q, size, table) for size, table in zip(sizes, thing))
+
+
+def renamed_steps(stair, tables, place):
+    q, sizes, _ = stair
+    behind = (place + 1) % len(sizes)
+    return {led(q, room, tables[place]) + (mark,) + led(q, target, tables[behind])
+            for room, mark, target in steps(stair, place)}
+
+
+def repeated(stair, m):
+    q, sizes, sections = stair
+    return (q, sizes * m, sections * m)
+
+
+def arc(n, s, t):
+    """The places from the time s on round to the time t."""
+    found = [s]
+    while (found[-1] + 1) % n != t:
+        found.append((found[-1] + 1) % n)
+    return found
+
+
+def cut_bound(book, s, t):
+    q, n, basis = book
+    found = len(basis)
+    for ahead, behind in ((s, t), (t, s)):
+        others = [place for place in range(n) if place not in arc(n, ahead, behind)]
+        found -= count_of(q, [word for word in words(book) if not any(word[place] for place in others)])
+    return found
+
+
+# Parts 9 and 10: prices. `spoken` are the words that a stair spells.
+
+def is_prices(stair, thing):
+    q, sizes, _ = stair
+    if type(thing) is not tuple or len(thing) != len(sizes):
+        return False
+    return all(type(row) is tuple and len(row) == q and all(is_int(price) for price in row) for row in thing)
+
+
+def price(prices, word):
+    """The price of the word of a round of one turn or of several."""
+    return sum(prices[at % len(prices)][mark] for at, mark in enumerate(word))
+
+
+def nearest(prices, spoken):
+    least = min(price(prices, word) for word in spoken)
+    return tuple(sorted(word for word in spoken if price(prices, word) == least))
+
+
+def mark_prices(q, prices, spoken):
+    found = []
+    for place in range(len(prices)):
+        fit = [[price(prices, word) for word in spoken if word[place] == mark] for mark in range(q)]
+        found.append(tuple(min(told) if told else None for told in fit))
+    return tuple(found)
+
+
+def named_heights(stair, thing, times):
+    """A dict (time, room) -> height, for so many times; None if the value has not the form of heights."""
+    q, sizes, _ = stair
+    if type(thing) is not tuple or len(thing) != times:
+        return None
+    named = {}
+    for time, row in enumerate(thing):
+        rooms = all_rows(q, sizes[time % len(sizes)])
+        if type(row) is not tuple or len(row) != len(rooms):
+            return None
+        named.update({(time, room): height for room, height in zip(rooms, row)})
+    return named if all(height is None or is_int(height) for height in named.values()) else None
+
+
+def is_nearest(stair, prices, spoken, thing):
+    """Whether a value is a certificate of a nearest word."""
+    q, sizes, _ = stair
+    n = len(sizes)
+    if type(thing) is not tuple or len(thing) != 3 or repr(thing[0]) != "'nearest'":
+        return False
+    if not is_row(q, n, thing[1]) or thing[1] not in spoken or type(thing[2]) is not tuple:
+        return False
+    starts = all_rows(q, sizes[0])
+    if len(thing[2]) != len(starts):
+        return False
+    for start, item in zip(starts, thing[2]):
+        named = named_heights(stair, item, n + 1)
+        if named is None or named[n, start] is not None and named[n, start] < price(prices, thing[1]):
+            return False
+        if any(named[0, room] != (0 if room == start else None) for room in starts):
+            return False
+        for place in range(n):
+            for room, mark, target in steps(stair, place):
+                height, behind = named[place, room], named[place + 1, target]
+                if height is not None and (behind is None or behind > height + prices[place][mark]):
+                    return False
+    return True
+
+
+def is_long_round(stair, thing):
+    q, sizes, _ = stair
+    n = len(sizes)
+    if type(thing) is not tuple or len(thing) != 2 or not all(type(part) is tuple for part in thing):
+        return False
+    rooms, word = thing
+    if len(word) == 0 or len(word) % n != 0 or len(rooms) != len(word) or not is_row(q, len(word), word):
+        return False
+    for j in range(len(word)):
+        if not is_row(q, sizes[j % n], rooms[j]):
+            return False
+    return all((rooms[j], word[j], rooms[(j + 1) % len(word)]) in steps(stair, j % n) for j in range(len(word)))
+
+
+def mean(prices, word):
+    found = Fraction(price(prices, word), len(word) // len(prices))
+    return (found.numerator, found.denominator)
+
+
+def does_bound(stair, prices, told, thing):
+    """Whether a value is heights for a mean."""
+    n = len(prices)
+    top, bottom = told
+    named = named_heights(stair, thing, n)
+    if named is None or None in named.values():
+        return False
+    for place in range(n):
+        for room, mark, target in steps(stair, place):
+            most = named[place, room] + bottom * prices[place][mark]
+            if place == n - 1:
+                most -= top
+            if named[(place + 1) % n, target] > most:
+                return False
+    return True
+
+
+def is_mean(stair, prices, thing):
+    """Whether a value is a certificate of the least mean."""
+    if type(thing) is not tuple or len(thing) != 5 or repr(thing[0]) != "'mean'":
+        return False
+    _, told, rooms, word, heights = thing
+    if not is_long_round(stair, (rooms, word)) or repr(told) != repr(mean(prices, word)):
+        return False
+    return does_bound(stair, prices, told, heights)
+
+
+def is_going_round(stair, prices, spoken, thing):
+    """Whether a value is a certificate of [10.3]."""
+    q, sizes, _ = stair
+    if type(thing) is not tuple or len(thing) != 3:
+        return False
+    kind, first, second = thing
+    if repr(kind) == "'word'":
+        if not is_row(q, len(sizes), first) or first not in spoken:
+            return False
+        return does_bound(stair, prices, (price(prices, first), 1), second)
+    if repr(kind) != "'round'" or not is_long_round(stair, (first, second)):
+        return False
+    least = min(price(prices, word) for word in spoken)
+    return Fraction(price(prices, second), len(second) // len(sizes)) < least
+
+
+def turn_prices(stair, prices, most):
+    """The least prices of long rounds of 1 turn, of 2 and so on, gone step by step from each room at the time 0."""
+    q, sizes, _ = stair
+    doors = [steps(stair, place) for place in range(len(sizes))]
+    found = {}
+    for start in all_rows(q, sizes[0]):
+        reached = {start: 0}
+        for m in range(1, most + 1):
+            for place, ways in enumerate(doors):
+                further = {}
+                for room, mark, target in ways:
+                    if room in reached:
+                        told = reached[room] + prices[place][mark]
+                        further[target] = min(told, further.get(target, told))
+                reached = further
+            if start in reached:
+                found[m] = min(reached[start], found.get(m, reached[start]))
+    return found
+
+
+def least_means(stair, prices, most):
+    """The least mean of all long rounds of up to so many turns, and the fewest turns that have it."""
+    means = {m: Fraction(told, m) for m, told in turn_prices(stair, prices, most).items()}
+    least = min(means.values())
+    return (least.numerator, least.denominator), min(m for m in means if means[m] == least)

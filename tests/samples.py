@@ -20,6 +20,10 @@ SPARE = (2, (1, 1), (((1, 0, 0), (0, 1, 0), (0, 0, 1)), ((1, 0, 1),)))
 # At the time 1 there are rooms, but no section has a row.
 BARE = (3, (0, 2), ((), ()))
 STILL = (5, (0, 0, 0), ((), ((1,),), ()))
+# Both kinds of rooms can be kept for a whole turn, so two turns can do what one can't.
+RING = (2, (1, 1, 1), (PASS, PASS, PASS))
+DEAR = ((0, -2), (0, 9), (0, 9))
+COINS = ((0, 3), (0, 1), (2, 0))
 
 
 class Dice:
@@ -226,6 +230,71 @@ def largest_told_stairs():
     ]
 
 
+def some_prices(dice, q, n):
+    """Prices that are all 0, the same for all marks, thrown, below 0, great, and other than 0 at one place alone."""
+    thrown = tuple(tuple(dice.throw(7) - 3 for _ in range(q)) for _ in range(n))
+    low = tuple(tuple(-dice.throw(4) for _ in range(q)) for _ in range(n))
+    great = tuple(tuple((dice.throw(3) - 1) * 10 ** 6 for _ in range(q)) for _ in range(n))
+    place = dice.throw(n)
+    alone = tuple(tuple(mark * (1 - 2 * dice.throw(2)) if at == place else 0 for mark in range(q)) for at in range(n))
+    return [((0,) * q,) * n, ((5,) * q,) * n, thrown, low, great, alone]
+
+
+def shifted(q, factors):
+    """A stair of two places that leads the rooms in circles.
+
+    At the place 0 the marks of a room move ahead by one and the sum of all of
+    them, each times its factor, comes behind them; the step has the mark that
+    was the first one. At the place 1 all rooms are kept.
+    """
+    size = len(factors)
+    units = [tuple(int(at == k) for at in range(size)) for k in range(size)]
+    moved = [unit + unit[:1] + unit[1:] + (factor,) for unit, factor in zip(units, factors)]
+    kept = [unit + (0,) + unit for unit in units]
+    sections = (oracles.plain(q, 2 * size + 1, moved), oracles.plain(q, 2 * size + 1, kept))
+    return (q, (size, size), sections)
+
+
+def circling_stairs():
+    """(stair, prices) in which one turn is often not enough: mostly the rooms are led to other ones."""
+    dice = Dice(43)
+    stairs = [RING, shifted(2, (1, 1)), shifted(2, (1, 0)), shifted(3, (1, 1)), shifted(5, (2,)), shifted(2, (1, 1, 0))]
+    for q, n, size in ((2, 2, 2), (2, 3, 2), (2, 2, 3), (3, 2, 1), (3, 3, 1), (3, 2, 2), (5, 2, 1), (5, 3, 1)) * 5:
+        sections = []
+        for _ in range(n):
+            tables = free_rows(dice, q, size, size)
+            rows = [tuple(int(at == k) for at in range(size)) + dice.row(q, 1) + row for k, row in enumerate(tables)]
+            if dice.throw(4) == 0:
+                rows.append(dice.row(q, 2 * size + 1))
+            sections.append(oracles.plain(q, 2 * size + 1, rows))
+        stairs.append((q, (size,) * n, tuple(sections)))
+    found = []
+    for stair in stairs:
+        for _ in range(3):
+            # The mark 0 costs the most, so that the round of noughts is dear.
+            prices = [(dice.throw(3),) + tuple(-dice.throw(6) for _ in range(stair[0] - 1)) for _ in stair[1]]
+            found.append((stair, tuple(prices)))
+    return found
+
+
+def largest_priced_stairs():
+    """Stairs at the limits of parts 9 and 10: the most places, rooms and steps, and circles of many turns."""
+    dice = Dice(41)
+    found = [shifted(2, (1, 1, 0, 0)), shifted(3, (1, 1)), shifted(5, (2,)), (2, (4, 4), (whole(2, 9)[2][:8],) * 2)]
+    for q, sizes, count in ((2, (4,) * 6, 8), (2, (4,) * 6 + (0,) * 6, 8), (2, (2,) * 12, 5), (2, (4, 0) * 6, 5),
+                            (3, (2,) * 7, 5), (3, (2,) * 7, 4), (5, (1,) * 5, 3), (5, (1,) * 5, 2)):
+        sections = []
+        for place in range(len(sizes)):
+            width = oracles.width(sizes, place)
+            sections.append(oracles.plain(q, width, free_rows(dice, q, width, min(count, width))))
+        found.append((q, sizes, tuple(sections)))
+    return found
+
+
+def some_tables(dice, q, sizes):
+    return tuple(free_rows(dice, q, size, size) for size in sizes)
+
+
 def deep(wrap):
     """A value that is wrapped eight times."""
     value = 1
@@ -251,6 +320,13 @@ def any_values():
         ("rows", ((1, 0, 1, 0), (0, 1, 0, 1))), ("rows", (None, [])), ((0, 2), (2, 0)), ((0, 1), (1, 2), (2, 3)),
         ("apart", (((0, 1), ((), (1,), (0,)), (1, 1, 0)), ((1, 2), ((), (0,), (1,)), (0, 1, 1)))), ("apart", [None]),
         ("apart", (((), (), ()), (None, None, None))), ("room", 1, (1,)), ("step", 0, (0, 0, 1)), ("room", [], {}),
+        COINS, list(COINS), ((0, 1),) * 4, ((0, 1), (0, True), (0, 1), (0, 1)), ((0, None),) * 4, ((),) * 4,
+        ((), ((1,),), ((1,),), ((1,),)), ((), ((True,),), ((1,),), ((1,),)), ((), ((0,),), ((1,),), ((1,),)),
+        ("nearest", (0, 1, 1), (((0,), (0, 3), (0, 1), (1,)),)), ("nearest", (0, 0, 0, 0), ((None,),)),
+        ("nearest", [], {}), ("mean", (-2, 1), (), (), ()), ("mean", (0, 0), None, (0,), ((0,),)), ("word", (), ()),
+        ("mean", (0, 1), ((),) * 4, (0, 0, 0, 0), ((0,), (0, None), (0, 0), (0, 0))),
+        ("word", (0, 0, 0, 0), ((0,), (0, 0), (0, 0), (0, 0))), ("round", (((0,),) * 8), (0,) * 8),
+        (((), (1,), (0,), (0,)) * 2, (1, 1, 0, 0) * 2), (((), (1,), (0,), (0,)), (1, 1, 0, 0) * 2), ((), ()),
     ]
 
 

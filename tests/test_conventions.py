@@ -9,13 +9,18 @@ from roundstairs import errors
 from roundstairs.apart import apart_holds, judge_apart, stair_stretches, trimmed
 from roundstairs.books import (
     book_of, dimension, has_word, is_book, partner_of, within, words_of)
+from roundstairs.changes import cover, cut_bound, renamed, turned
 from roundstairs.least import (
     fewest_greatest, fewest_sum, judge_least, judge_rows, least_holds, least_sizes, making_below, rows_hold)
 from roundstairs.makings import is_making, making_sizes, marks_of, round_by, stair_of
+from roundstairs.nearest import judge_nearest, mark_prices, nearest_holds, nearest_words, price_of
+from roundstairs.partners import dimensions, is_joined, partner_stair
 from roundstairs.stairs import (
     is_round, is_sharp, is_stair, is_trim, judge_word, round_count, rooms_of, rounds_of, spelled, steps_of, word_holds)
 from roundstairs.stretches import (
     does_lie_over, inner_times, is_full, is_stretch, list_of, places_in, stretches_of, words_over)
+from roundstairs.turns import (
+    fewest_turns, is_long_round, judge_mean, judge_turns, least_mean, mean_holds, turns_hold)
 from tests import oracles
 from tests.samples import EVEN, MAKING, OPEN, any_values, mangled, not_full_books
 
@@ -42,9 +47,31 @@ INTERFACE = {
     "roundstairs.apart": {
         "judge_apart": ("stair",), "apart_holds": ("stair", "thing"), "stair_stretches": ("stair",),
         "trimmed": ("stair",)},
+    "roundstairs.partners": {
+        "partner_stair": ("stair",), "is_joined": ("stair",), "dimensions": ("stair",)},
+    "roundstairs.changes": {
+        "turned": ("stair", "t"), "renamed": ("stair", "tables"), "cover": ("stair", "m"),
+        "cut_bound": ("book", "s", "t")},
+    "roundstairs.nearest": {
+        "judge_nearest": ("stair", "prices"), "nearest_holds": ("stair", "prices", "thing"),
+        "nearest_words": ("stair", "prices"), "mark_prices": ("stair", "prices"),
+        "price_of": ("stair", "prices", "word")},
+    "roundstairs.turns": {
+        "is_long_round": ("stair", "thing"), "judge_mean": ("stair", "prices"),
+        "mean_holds": ("stair", "prices", "thing"), "least_mean": ("stair", "prices"),
+        "judge_turns": ("stair", "prices"), "turns_hold": ("stair", "prices", "thing"),
+        "fewest_turns": ("stair", "prices")},
 }
 
 LAP = (((), (1,), (0,), (0,)), (1, 1, 0, 0))
+
+TABLES = ((), ((1,),), ((1,),), ((1,),))
+PRICES = ((0, 3), (0, -1), (2, 0), (1, -1))
+# Certificates for OPEN and PRICES.
+NEAREST = ("nearest", (0, 0, 1, 1), (((0,), (0, 3), (0, -1), (-1, 0), (-1,)),))
+LOW = ((0,), (0, 3), (0, -1), (-1, 0))
+MEAN = ("mean", (-1, 1), ((), (0,), (0,), (1,)) * 2, (0, 0, 1, 1) * 2, LOW)
+GOING = ("word", (0, 0, 1, 1), LOW)
 
 # For each function some arguments that it accepts.
 CALLS = (
@@ -91,14 +118,35 @@ CALLS = (
     (apart_holds, {"stair": OPEN, "thing": ("apart", ())}),
     (stair_stretches, {"stair": OPEN}),
     (trimmed, {"stair": OPEN}),
+    (partner_stair, {"stair": OPEN}),
+    (is_joined, {"stair": OPEN}),
+    (dimensions, {"stair": OPEN}),
+    (turned, {"stair": OPEN, "t": -3}),
+    (renamed, {"stair": OPEN, "tables": TABLES}),
+    (cover, {"stair": OPEN, "m": 2}),
+    (cut_bound, {"book": EVEN, "s": 1, "t": 3}),
+    (judge_nearest, {"stair": OPEN, "prices": PRICES}),
+    (nearest_holds, {"stair": OPEN, "prices": PRICES, "thing": NEAREST}),
+    (nearest_words, {"stair": OPEN, "prices": PRICES}),
+    (mark_prices, {"stair": OPEN, "prices": PRICES}),
+    (price_of, {"stair": OPEN, "prices": PRICES, "word": (1, 1, 1, 0)}),
+    (is_long_round, {"stair": OPEN, "thing": (LAP[0] * 2, LAP[1] * 2)}),
+    (judge_mean, {"stair": OPEN, "prices": PRICES}),
+    (mean_holds, {"stair": OPEN, "prices": PRICES, "thing": MEAN}),
+    (least_mean, {"stair": OPEN, "prices": PRICES}),
+    (judge_turns, {"stair": OPEN, "prices": PRICES}),
+    (turns_hold, {"stair": OPEN, "prices": PRICES, "thing": GOING}),
+    (fewest_turns, {"stair": OPEN, "prices": PRICES}),
 )
+
 
 def is_told_sizes(n, value):
     return type(value) is tuple and len(value) == n and all(oracles.is_int(size) and size >= 0 for size in value)
 
 
 YES_OR_NO = ("is_book", "has_word", "is_stair", "is_round", "is_sharp", "is_trim", "word_holds", "is_stretch",
-             "does_lie_over", "is_full", "is_making", "rows_hold", "least_holds", "apart_holds")
+             "does_lie_over", "is_full", "is_making", "rows_hold", "least_holds", "apart_holds", "is_joined",
+             "nearest_holds", "is_long_round", "mean_holds", "turns_hold")
 NEEDS_FULL = ("list_of", "judge_rows", "rows_hold", "least_sizes", "making_below", "fewest_greatest", "fewest_sum",
               "judge_least", "least_holds")
 
@@ -115,6 +163,16 @@ KINDS = {
     "making": (errors.BadMaking, lambda value: oracles.is_making(EVEN, value)),
     "stretches": (errors.BadStretches, lambda value: oracles.is_lot(EVEN, value)),
     "sizes": (errors.BadSizes, lambda value: is_told_sizes(4, value)),
+    "t": (errors.BadNumber, oracles.is_int),
+    "m": (errors.BadNumber, lambda value: oracles.is_int(value) and value >= 1),
+    "tables": (errors.BadTables, lambda value: oracles.is_tables(OPEN, value)),
+    "prices": (errors.BadPrices, lambda value: oracles.is_prices(OPEN, value)),
+    "word": (errors.BadRow, lambda value: oracles.is_row(2, 4, value)),
+}
+# The two times of cut_bound; the second one is to be another one than 1.
+TIMES = {
+    "s": (errors.BadTime, lambda value: oracles.is_int(value) and 0 <= value < 4),
+    "t": (errors.BadTime, lambda value: oracles.is_int(value) and value in (0, 2, 3)),
 }
 
 
@@ -128,14 +186,20 @@ def is_row_for(name, value):
     return oracles.is_row(2, 4, value)
 
 
-def is_kind(function, parameter, value):
+def told_kind(function, parameter):
+    if function.__name__ == "cut_bound" and parameter in TIMES:
+        return TIMES[parameter]
     if parameter == "row":
-        return is_row_for(function.__name__, value)
-    return KINDS[parameter][1](value)
+        return errors.BadRow, lambda value: is_row_for(function.__name__, value)
+    return KINDS[parameter]
 
 
-def error_of(parameter):
-    return errors.BadRow if parameter == "row" else KINDS[parameter][0]
+def is_kind(function, parameter, value):
+    return told_kind(function, parameter)[1](value)
+
+
+def error_of(function, parameter):
+    return told_kind(function, parameter)[0]
 
 
 def checked_parameters(arguments):
@@ -204,13 +268,14 @@ class CallTest(unittest.TestCase):
                 for value in any_values() + list(mangled(arguments[parameter])):
                     if not is_kind(function, parameter, value):
                         changed = {**arguments, parameter: value}
-                        self.check_error(function, changed, error_of(parameter), value)
+                        self.check_error(function, changed, error_of(function, parameter), value)
 
     def test_values_of_the_kind_raise_nothing(self):
         for function, arguments in CALLS:
             for parameter in checked_parameters(arguments):
                 for value in list(mangled(arguments[parameter])):
-                    if is_kind(function, parameter, value) and parameter not in ("q", "n", "book", "stair"):
+                    # Other values may be right by themselves, but not beside the others or not small enough.
+                    if is_kind(function, parameter, value) and parameter not in ("q", "n", "book", "stair", "m"):
                         function(**{**arguments, parameter: value})
 
     def test_the_first_of_several_errors(self):
@@ -218,13 +283,15 @@ class CallTest(unittest.TestCase):
             checked = checked_parameters(arguments)
             for at, first in enumerate(checked):
                 for value in (None, True, -1, [], "x", (True,)):
+                    if is_kind(function, first, value):
+                        continue
                     changed = dict(arguments)
                     for parameter in checked[at:]:
                         changed[parameter] = value if parameter == first else {parameter: 0}
                     for parameter in ("thing", "rows"):
                         if parameter in changed:
                             changed[parameter] = {}
-                    self.check_error(function, changed, error_of(first), value)
+                    self.check_error(function, changed, error_of(function, first), value)
 
     def test_rows_that_are_none(self):
         for value in any_values():
@@ -244,8 +311,29 @@ class CallTest(unittest.TestCase):
                 self.assertIn(function.__name__, YES_OR_NO)
                 for value in any_values() + list(mangled(arguments["thing"])):
                     for thing in (value, ("round", value), ("rows", value), ("tight", value), ("lesser", value),
-                                  ("apart", value), ("room", value, value), ("step", 1, value), (value, (0, 1))):
+                                  ("apart", value), ("room", value, value), ("step", 1, value), (value, (0, 1)),
+                                  ("nearest", value, value), NEAREST[:2] + (value,), ("word", value, value),
+                                  GOING[:2] + (value,), ("round", value, value), ("mean", value) + MEAN[2:],
+                                  ("mean", value, value, value, value), MEAN[:4] + (value,), (value, LAP[1]),
+                                  (LAP[0], value)):
                         self.assertIs(type(function(**{**arguments, "thing": thing})), bool)
+
+    def test_certificates_of_the_calls_are_right(self):
+        right = [function.__name__ for function, arguments in CALLS
+                 if "thing" in arguments and function(**arguments) is True]
+        self.assertEqual([function.__name__ for function, arguments in CALLS if "thing" in arguments
+                          and function.__name__ not in right], ["apart_holds"])
+
+    def test_too_many_places_come_last(self):
+        for value in (4, 5, 12, 10 ** 39):
+            with self.assertRaises(errors.TooMany) as caught:
+                cover(stair=OPEN, m=value)
+            self.assertEqual(vars(caught.exception), {"most": 12})
+            self.check_error(cover, {"stair": None, "m": value}, errors.BadStair, None)
+
+    def test_the_same_time_twice(self):
+        for time in range(4):
+            self.check_error(cut_bound, {"book": EVEN, "s": time, "t": time}, errors.BadTime, time)
 
     def test_books_that_are_not_full(self):
         for function, arguments in CALLS:

@@ -74,6 +74,44 @@ APART = """
 [True, True, (2, (0, 0, 1), (((1,),), ((1, 1),), ((1, 1),))), True]
 """
 
+PARTNERS = """
+>>> from roundstairs.partners import dimensions, is_joined, partner_stair
+>>> LAID = (2, (0, 1, 1), (((1, 1),), ((1, 0, 1), (0, 1, 1)), ((1, 1),)))
+>>> RING = (2, (1, 1, 1), (((1, 0, 1), (0, 1, 1)), ((1, 0, 1), (0, 1, 1)), ((1, 0, 1), (0, 1, 1))))
+>>> [partner_stair(LAID), dimensions(LAID), is_joined(LAID), dimensions(RING), is_joined(RING), dimensions(partner_stair(RING))]
+[(2, (0, 1, 1), (((1, 1),), ((1, 1, 1),), ((1, 1),))), (2, 0), True, (3, 1), True, (1, 0)]
+"""
+
+CHANGES = """
+>>> from roundstairs.changes import cover, cut_bound, renamed, turned
+>>> LAID = (2, (0, 1, 1), (((1, 1),), ((1, 0, 1), (0, 1, 1)), ((1, 1),)))
+>>> FIVE = (5, (0, 1), (((1, 1),), ((1, 1),)))
+>>> [turned(LAID, 1), renamed(FIVE, ((), ((2,),))), cover(FIVE, 2)[1]]
+[(2, (1, 1, 0), (((1, 0, 1), (0, 1, 1)), ((1, 1),), ((1, 1),))), (5, (0, 1), (((1, 2),), ((1, 3),))), (0, 1, 0, 1)]
+>>> [cut_bound((2, 3, ((1, 0, 1), (0, 1, 1))), 0, 1), cut_bound((2, 3, ((1, 0, 1), (0, 1, 1))), 1, 2)]
+[1, 1]
+"""
+
+NEAREST = """
+>>> from roundstairs.nearest import judge_nearest, mark_prices, nearest_holds, nearest_words, price_of
+>>> LAID = (2, (0, 1, 1), (((1, 1),), ((1, 0, 1), (0, 1, 1)), ((1, 1),)))
+>>> COINS = ((0, 3), (0, 1), (2, 0))
+>>> [nearest_words(LAID, COINS), price_of(LAID, COINS, (1, 1, 0)), mark_prices(LAID, COINS), nearest_holds(LAID, COINS, ('nearest', (0, 1, 1), (((0,), (0, 3), (0, 1), (1,)),))), judge_nearest(LAID, COINS)[:2]]
+[((0, 1, 1),), 6, ((1, 3), (2, 1), (2, 1)), True, ('nearest', (0, 1, 1))]
+"""
+
+TURNS = """
+>>> from roundstairs.turns import fewest_turns, is_long_round, judge_turns, least_mean, mean_holds, turns_hold
+>>> LAID = (2, (0, 1, 1), (((1, 1),), ((1, 0, 1), (0, 1, 1)), ((1, 1),)))
+>>> RING = (2, (1, 1, 1), (((1, 0, 1), (0, 1, 1)), ((1, 0, 1), (0, 1, 1)), ((1, 0, 1), (0, 1, 1))))
+>>> DEAR = ((0, -2), (0, 9), (0, 9))
+>>> TWICE = (((0,), (1,), (1,), (1,), (0,), (0,)), (1, 0, 0, 1, 0, 0))
+>>> [is_long_round(RING, TWICE), least_mean(RING, DEAR), least_mean(LAID, DEAR), fewest_turns(RING, DEAR), judge_turns(RING, DEAR)[0], judge_turns(LAID, DEAR)[:2]]
+[True, (-2, 1), (0, 1), 2, 'round', ('word', (0, 0, 0))]
+>>> [mean_holds(RING, DEAR, ('mean', (-2, 1)) + TWICE + (((0, 0), (-2, -2), (-2, -2)),)), turns_hold(RING, DEAR, ('round',) + TWICE)]
+[True, True]
+"""
+
 
 class ExamplesTest(unittest.TestCase):
 
@@ -121,6 +159,18 @@ class ExamplesTest(unittest.TestCase):
 
     def test_apart(self):
         self.run_text(APART)
+
+    def test_partners(self):
+        self.run_text(PARTNERS)
+
+    def test_changes(self):
+        self.run_text(CHANGES)
+
+    def test_nearest(self):
+        self.run_text(NEAREST)
+
+    def test_turns(self):
+        self.run_text(TURNS)
 
     def test_readme(self):
         readme = pathlib.Path(__file__).parent.parent / "README.md"

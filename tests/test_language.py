@@ -12,6 +12,10 @@ FOLDER = pathlib.Path(roundstairs.__file__).parent
 BROKEN = (
     ("L2", "def f():\n    from roundstairs.rows import noughts\n    return noughts(1)\n"),
     ("L2", "LOW = 1\nfrom roundstairs.rows import noughts\n"),
+    ("L2", "from math import sqrt\n"),
+    ("L2", "from math import gcd as common\n"),
+    ("L2", "from math import gcd\ndef f(g):\n    return g(gcd)\n"),
+    ("L2", "from math import gcd\ndef f(x):\n    return gcd(x, other=x)\n"),
     ("L3", "LOW, HIGH = 1, 2\n"),
     ("L3", "LOW = len('a')\n"),
     ("L3", "LOWS = [1, 2]\n"),
@@ -53,9 +57,11 @@ BROKEN = (
     ("L15", "def f(round):\n    return round\n"),
     ("L15", "LOWS = (1, 2)\ndef f():\n    LOWS[0] = 1\n"),
     ("L15", "from roundstairs.rows import noughts\ndef f(noughts):\n    return noughts\n"),
+    ("L15", "from math import gcd\ndef f(gcd):\n    return gcd\n"),
     ("L16", "from roundstairs.books import is_row\n"),
     ("L16", "from roundstairs.rows import *\n"),
     ("L16", "from .rows import noughts\n"),
+    ("L16", "from .math import gcd\n"),
     ("L16", "from itertools import product\n"),
     ("L16", "from roundstairs.rows import noughts as zeros\n"),
     ("L17", "def f(elements):\n    return elements\n"),
@@ -82,6 +88,7 @@ BROKEN = (
 )
 
 RIGHT = (
+    "from math import gcd\n\n\ndef f(x, y):\n    return gcd(x, y)\n",
     "LOW = 1\nPAIR = (1, (-2, 'a'))\n",
     "def f(xs):\n    for k, x in enumerate(xs):\n        if x is not None:\n            return k\n    return len(xs)\n",
     "def f(xs, ys):\n    return sum([x * y for x, y in zip(xs, ys)]) % 3\n",
